@@ -1,0 +1,1 @@
+"""Wedgespace: spaces glued from tetrahedra."""
