@@ -54,7 +54,7 @@ class NotGroup(WedgeError):
 
 
 class OpenTrial(WedgeError):
-    """A trial of a journal is open, or none is."""
+    """A trial of a journal is going on, or none is."""
 
 
 class NotGluing(WedgeError):

@@ -11,7 +11,8 @@ def reached(links, start):
     seen = {start}
     at = 0
     while at < len(found):
-        for place in links[found[at]]:
+        here = found[at]
+        for place in links[here]:
             if place not in seen:
                 seen.add(place)
                 found.append(place)
@@ -42,9 +43,9 @@ def chosen_sides(links, start):
     found = [start]
     at = 0
     while at < len(found):
-        side = sides[found[at]]
-        for place, same in links[found[at]]:
-            wanted = side if same else not side
+        here = found[at]
+        for place, same in links[here]:
+            wanted = sides[here] if same else not sides[here]
             if place not in sides:
                 sides[place] = wanted
                 found.append(place)

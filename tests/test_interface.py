@@ -1,0 +1,101 @@
+"""The names and arguments of the interface, and promise 0."""
+
+import importlib
+import inspect
+import unittest
+
+from tests.samples import gluing_of, ring, EXAMPLE
+from wedgespace.errors import NotGluing
+
+INTERFACE = {
+    "perms": [
+        "is_permutation(entries)", "after(one, other)", "inverse(one)", "is_odd(one)",
+        "all_permutations()", "index_of(one)"],
+    "gluings": [
+        "is_gluing(gluing)", "check_gluing(gluing)", "is_joined(gluing)", "pieces(gluing)",
+        "union(one, other)", "mirror(gluing)", "is_oriented(gluing)", "sides(gluing)"],
+    "texts": ["text_of(gluing)", "read_gluing(text)"],
+    "skeleton": [
+        "corner_classes(gluing)", "edge_classes(gluing)", "turned_edges(gluing)",
+        "edge_signs(gluing)", "degrees(gluing)", "edge_index(a, b)",
+        "around(gluing, t, a, b, c)", "euler_number(gluing)"],
+    "links": [
+        "link_numbers(gluing)", "link_can_be_oriented(gluing, index)", "is_closed(gluing)",
+        "check_closed(gluing)"],
+    "renaming": [
+        "is_renaming(n, renaming)", "same_names(n)", "renamed(gluing, renaming)",
+        "joined_renamings(one, other)", "undone_renaming(one)",
+        "is_renaming_to(one, other, renaming)"],
+    "forms": [
+        "walk_form(gluing, t, p)", "standard_form(gluing)", "standard_renaming(gluing)",
+        "renamings(one, other)", "symmetries(gluing)"],
+    "moves": [
+        "can(gluing, move)", "made(gluing, move)",
+        "moves_of(gluing, *, kinds=('split', 'join', 'face', 'edge'))"],
+}
+
+ERRORS = [
+    "WedgeError", "NotJoined", "NotClosed", "NotRenaming", "NotWord", "NotImages", "NotMatrix",
+    "NotVector", "NotWay", "BadNumber", "TooLarge", "NoAnswer", "NotGroup", "OpenTrial",
+    "NotGluing", "BadMove", "Malformed", "BadJournal"]
+
+
+def functions_of(module):
+    """Return the pairs of a function of a module and its signature in the interface."""
+    found = importlib.import_module(f"wedgespace.{module}")
+    return [(getattr(found, told.split("(")[0]), told) for told in INTERFACE[module]]
+
+
+class InterfaceTest(unittest.TestCase):
+    def test_names_and_arguments(self):
+        for module in INTERFACE:
+            for function, told in functions_of(module):
+                self.assertTrue(inspect.isfunction(function), told)
+                self.assertEqual(function.__name__ + str(inspect.signature(function)), told)
+                self.assertEqual(function.__module__, f"wedgespace.{module}")
+
+    def test_errors(self):
+        module = importlib.import_module("wedgespace.errors")
+        for name in ERRORS:
+            self.assertEqual(getattr(module, name).__module__, "wedgespace.errors")
+
+    def test_integers_of_any_size(self):
+        # Python writes no integer of so many digits, not even in the message of an error.
+        great = 10 ** 5000
+        gluing = gluing_of(EXAMPLE)
+        bad = (((great, (great, 1, 2, 3)),) * 4,)
+        for module in INTERFACE:
+            for function, told in functions_of(module):
+                if told.endswith("(gluing)") and function.__name__ != "is_gluing":
+                    with self.assertRaises(NotGluing):
+                        function(bad)
+        calls = {
+            "after": [((0, 1, 2, great), (0, 1, 2, 3))], "edge_index": [(great, -great)],
+            "around": [(gluing, great, 0, 1, 2), (gluing, 0, great, 1, -great)],
+            "link_can_be_oriented": [(gluing, great)], "same_names": [(great,), (-great,)],
+            "renamed": [(gluing, ((great, (0, 1, 2, great)),))],
+            "joined_renamings": [(((great, (0, 1, 2, 3)),), ((0, (0, great, 1, 2)),))],
+            "walk_form": [(gluing, great, (0, 1, 2, 3)), (gluing, 0, (great, 1, 2, 3))],
+            "made": [(gluing, ("split", great)), (gluing, ("edge", 0, -great))],
+        }
+        for module in INTERFACE:
+            for function, told in functions_of(module):
+                for arguments in calls.pop(function.__name__, []):
+                    with self.assertRaises(ValueError) as caught:
+                        function(*arguments)
+                    self.assertEqual(type(caught.exception).__module__, "wedgespace.errors")
+        self.assertEqual(calls, {})
+
+    def test_same_answers_again(self):
+        # Nothing is kept from one call to the next one.
+        gluing = ring(3, 1)
+        for module in ("skeleton", "links", "forms", "moves"):
+            for function, told in functions_of(module):
+                if told.split("(")[1].startswith("gluing)") or "*" in told:
+                    first = repr(function(gluing))
+                    function(ring(2, 0))
+                    self.assertEqual(repr(function(gluing)), first)
+
+
+if __name__ == "__main__":
+    unittest.main()

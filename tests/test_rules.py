@@ -1,0 +1,107 @@
+"""Some rules of the language subset, as far as the code shows them plainly."""
+
+import ast
+import builtins
+import os
+import re
+import unittest
+
+FOLDER = os.path.join(os.path.dirname(os.path.dirname(os.path.abspath(__file__))), "wedgespace")
+
+BUILTINS = set("""len range enumerate zip min max sum abs sorted reversed int str bool list tuple dict
+    set isinstance ord repr any all divmod pow iter next super ValueError TypeError KeyError IndexError
+    Exception""".split())
+
+METHODS = set("""append clear copy count endswith extend find get index insert isalnum isalpha isdigit
+    islower isspace isupper items join keys ljust lower lstrip partition pop remove replace reverse
+    rfind rjust rpartition rsplit rstrip setdefault split splitlines startswith strip update upper
+    values zfill bit_length add discard __init__""".split())
+
+WORDS = """typing enum Enum Generic Protocol ABC namedtuple open input law register mro elements eval
+    exec compile globals locals vars dir id""".split()
+
+
+def files():
+    """Return the pairs of the name and the text of each file of the package."""
+    found = []
+    for name in sorted(os.listdir(FOLDER)):
+        if name != "__pycache__":
+            with open(os.path.join(FOLDER, name), encoding="utf-8") as file:
+                found.append((name, file.read()))
+    return found
+
+
+class RulesTest(unittest.TestCase):
+    def test_files(self):
+        for name, text in files():
+            self.assertRegex(name, r"^[a-z_][a-z0-9_]*\.py$")
+            self.assertRegex(text, r"^[\n -~]*\Z")
+            lines = text.split("\n")
+            self.assertLess(len(lines), 400, name)
+            self.assertLessEqual(max(len(line) for line in lines), 120, name)
+
+    def test_functions_are_small(self):
+        for name, text in files():
+            for node in ast.walk(ast.parse(text)):
+                if isinstance(node, ast.FunctionDef):
+                    self.assertLessEqual(node.end_lineno - node.lineno, 39, f"{name}: {node.name}")
+                    self.assertEqual(node.decorator_list, [])
+
+    def test_imports(self):
+        owners = {}
+        for name, text in files():
+            for node in ast.parse(text).body:
+                if isinstance(node, (ast.FunctionDef, ast.ClassDef)):
+                    owners[node.name] = f"wedgespace.{name[:-3]}"
+                elif isinstance(node, ast.Assign):
+                    owners[node.targets[0].id] = f"wedgespace.{name[:-3]}"
+        for name, text in files():
+            tree = ast.parse(text)
+            self.assertFalse([node for node in ast.walk(tree) if isinstance(node, ast.Import)])
+            for node in ast.walk(tree):
+                if isinstance(node, ast.ImportFrom):
+                    self.assertEqual(node.level, 0)
+                    self.assertIn(node, tree.body)
+                    for alias in node.names:
+                        self.assertIsNone(alias.asname)
+                        self.assertEqual(owners[alias.name], node.module, name)
+                        uses = re.findall(rf"\b{alias.name}\b", text)
+                        self.assertGreater(len(uses), 1, f"{name}: {alias.name} is not used")
+
+    def test_names(self):
+        for name, text in files():
+            tree = ast.parse(text)
+            bound = {node.name for node in ast.walk(tree) if isinstance(node, (ast.FunctionDef, ast.ClassDef))}
+            bound |= {alias.name for node in ast.walk(tree) if isinstance(node, ast.ImportFrom)
+                      for alias in node.names}
+            stored = {node.id for node in ast.walk(tree)
+                      if isinstance(node, ast.Name) and isinstance(node.ctx, ast.Store)}
+            stored |= {node.arg for node in ast.walk(tree) if isinstance(node, ast.arg)}
+            imported = {alias.name for node in ast.walk(tree) if isinstance(node, ast.ImportFrom)
+                        for alias in node.names}
+            self.assertFalse(stored & imported, name)
+            self.assertEqual((stored | bound) & set(dir(builtins)) - {"__init__"}, set(), name)
+            for node in ast.walk(tree):
+                if isinstance(node, ast.Name) and isinstance(node.ctx, ast.Load):
+                    self.assertIn(node.id, stored | bound | BUILTINS, name)
+                if isinstance(node, ast.Call) and isinstance(node.func, ast.Attribute):
+                    self.assertIn(node.func.attr, METHODS, name)
+            for word in WORDS:
+                self.assertNotRegex(text, rf"\b{word}\b", name)
+
+    def test_statements(self):
+        barred = (ast.Global, ast.AsyncFunctionDef, ast.Div)
+        for name, text in files():
+            for node in ast.walk(ast.parse(text)):
+                self.assertNotIsInstance(node, barred, name)
+                if isinstance(node, ast.Constant):
+                    self.assertNotIsInstance(node.value, float)
+                    if isinstance(node.value, str):
+                        self.assertNotIn(chr(37), node.value)
+                named = isinstance(node, (ast.FunctionDef, ast.ClassDef))
+                if named and node.name != "__init__":
+                    self.assertIsNotNone(ast.get_docstring(node), f"{name}: {node.name}")
+
+
+if __name__ == "__main__":
+    unittest.main()

@@ -1,0 +1,113 @@
+"""Walk forms, the standard form, and all renamings from one gluing to another one."""
+
+from wedgespace.errors import BadNumber, TooLarge
+from wedgespace.gluings import check_gluing, check_joined
+from wedgespace.perms import IDENTITY, all_permutations, inverse_of, is_permutation, product_of
+from wedgespace.renaming import inverse_of_renaming, product_of_renamings, renamed_entry
+
+MOST_FOR_FORMS = 12
+
+
+def check_size(gluing):
+    """Raise NotJoined or TooLarge if a gluing that was checked has no form here."""
+    check_joined(gluing)
+    if len(gluing) > MOST_FOR_FORMS:
+        raise TooLarge("the gluing has more than 12 tetrahedra")
+
+
+def walk_form(gluing, t, p):
+    """Return the pair of the walk form and of the renaming that leads to it."""
+    check_gluing(gluing)
+    check_size(gluing)
+    if not 0 <= t < len(gluing) or not is_permutation(p):
+        raise BadNumber("a walk begins with a tetrahedron and a permutation")
+    return walk_below(gluing, t, p, None)
+
+
+def standard_form(gluing):
+    """Return the standard form."""
+    check_gluing(gluing)
+    check_size(gluing)
+    form, _ = least_walk(gluing)
+    return form
+
+
+def standard_renaming(gluing):
+    """Return the first renaming that leads to the standard form."""
+    check_gluing(gluing)
+    check_size(gluing)
+    _, renaming = least_walk(gluing)
+    return renaming
+
+
+def least_walk(gluing):
+    """Return the pair of the least walk form and of the first renaming that leads to it."""
+    least = walk_below(gluing, 0, IDENTITY, None)
+    for t, p in beginnings(gluing):
+        found = walk_below(gluing, t, p, least[0])
+        if found is not None:
+            least = found
+    return least
+
+
+def beginnings(gluing):
+    """Return the list of all pairs (t, p) with which a walk can begin, in ascending order."""
+    permutations = all_permutations()
+    return [(t, p) for t in range(len(gluing)) for p in permutations]
+
+
+def walk_below(gluing, t, p, bound):
+    """Return the walk form and its renaming, or None if the form is not less than the bound.
+
+    The bound is a walk form, or None for no bound.
+    """
+    order = [t]
+    names = {t: (0, p)}
+    rows = []
+    is_less = bound is None
+    for k in range(len(gluing)):
+        here = order[k]
+        back = inverse_of(names[here][1])
+        entries = [gluing[here][f] for f in back]
+        name_neighbours(entries, names[here][1], order, names)
+        row = tuple([renamed_entry(entry, back, names) for entry in entries])
+        # The first row that differs decides: most walks need not be finished.
+        if not is_less and row != bound[k]:
+            if row > bound[k]:
+                return None
+            is_less = True
+        rows.append(row)
+    if not is_less:
+        return None
+    return (tuple(rows), tuple([names[u] for u in range(len(gluing))]))
+
+
+def name_neighbours(entries, p, order, names):
+    """Name the tetrahedra of the entries of a tetrahedron with the new corners p, if they have none.
+
+    `order` lists the tetrahedra by their new numbers, and `names` has their pairs of a renaming.
+    """
+    for v, q in entries:
+        if v not in names:
+            names[v] = (len(order), product_of(inverse_of(q), p))
+            order.append(v)
+
+
+def renamings(one, other):
+    """Return the list of all renamings from the first gluing to the second one, ascending."""
+    check_gluing(one)
+    check_gluing(other)
+    check_size(one)
+    check_size(other)
+    form, leading = walk_below(one, 0, IDENTITY, None)
+    found = []
+    for t, p in beginnings(other):
+        other_form, other_leading = walk_below(other, t, p, None)
+        if other_form == form:
+            found.append(product_of_renamings(leading, inverse_of_renaming(other_leading)))
+    return sorted(found)
+
+
+def symmetries(gluing):
+    """Return the list of all renamings from a gluing to itself, in ascending order."""
+    return renamings(gluing, gluing)
