@@ -11,6 +11,16 @@ EXAMPLE = "0:1023 0:1023 0:0132 0:0132"
 # Two tetrahedra; closed, and it cannot be oriented.
 ONE_SIDED = "1:0123 1:0123 1:1230 1:3012 / 0:0123 0:0123 0:1230 0:3012"
 
+# Two tetrahedra; closed, with sides, and the rank of its homology of dimension 1 is 1.
+HANDLE = "0:1230 0:3012 1:0123 1:0123 / 1:1230 1:3012 0:0123 0:0123"
+
+# Two tetrahedra; closed, and its group is that of the eight quaternions 1, i, j, k and negatives.
+QUATERNIONS = "1:0123 1:2301 1:3210 1:1032 / 0:0123 0:3210 0:1032 0:2301"
+
+# Three tetrahedra; closed, without sides, and its homology has a rank and a divisor.
+PLANE_CIRCLE = ("1:0123 1:0123 2:0123 2:2310 / 0:0123 0:0123 2:1032 2:3201"
+                " / 0:3201 1:2310 0:0123 1:1032")
+
 # One tetrahedron with one corner, whose link is a Klein bottle.
 KLEIN = "0:1203 0:2013 0:0231 0:0312"
 

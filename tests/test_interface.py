@@ -32,6 +32,35 @@ INTERFACE = {
     "moves": [
         "can(gluing, move)", "made(gluing, move)",
         "moves_of(gluing, *, kinds=('split', 'join', 'face', 'edge'))"],
+    "undo": ["undoing(gluing, move)", "carried(gluing, renaming, move)"],
+    "ways": [
+        "replay(gluing, log)", "is_way(one, other, way)", "undone(one, other, way)",
+        "joined(one, middle, other, first, second)", "shortened(one, other, way)"],
+    "walk": ["ball(gluing, radius, *, most)", "find_way(one, other, *, most=4)"],
+    "matrices": [
+        "is_matrix(rows, columns)", "identity(size)", "product(one, other, columns)",
+        "times(vector, rows, columns)", "transposed(rows, columns)"],
+    "diagonal": [
+        "diagonal_form(rows, columns)", "is_diagonal_form(rows, columns, form)",
+        "divisors(rows, columns)", "combination(rows, columns, vector)",
+        "test_weights(rows, columns, vector)", "kernel(rows, columns)"],
+    "chains": [
+        "cell_counts(gluing)", "border_matrix(gluing, dimension)",
+        "border(gluing, dimension, chain)", "side_signs(gluing)", "turning_circle(gluing)"],
+    "homology": [
+        "homology(gluing, dimension)", "number_modulo(gluing, dimension, prime)",
+        "homology_forms(gluing)", "filling(gluing, cycle)", "cycle_test(gluing, cycle)"],
+    "paths": [
+        "pairs_of(gluing)", "tree_pairs(gluing)", "generators_of(gluing)",
+        "path_end(gluing, path)", "path_word(gluing, path)", "backwards(gluing, path)",
+        "branch(gluing, t)", "circle(gluing, t, e)"],
+    "groups": [
+        "group_of(gluing)", "inverse_word(word)", "cut_word(word)", "loop(gluing, k)",
+        "names(gluing, renaming)", "sums(count, word)"],
+    "images": [
+        "check_images(count, images)", "permutation_of(images, word)",
+        "satisfies(group, images)", "is_transitive(images)", "all_images(group, degree)",
+        "classes_of(group, degree)"],
 }
 
 ERRORS = [
@@ -63,6 +92,7 @@ class InterfaceTest(unittest.TestCase):
         # Python writes no integer of so many digits, not even in the message of an error.
         great = 10 ** 5000
         gluing = gluing_of(EXAMPLE)
+        same = ((0, (0, 1, 2, 3)),)
         bad = (((great, (great, 1, 2, 3)),) * 4,)
         for module in INTERFACE:
             for function, told in functions_of(module):
@@ -77,6 +107,20 @@ class InterfaceTest(unittest.TestCase):
             "joined_renamings": [(((great, (0, 1, 2, 3)),), ((0, (0, great, 1, 2)),))],
             "walk_form": [(gluing, great, (0, 1, 2, 3)), (gluing, 0, (great, 1, 2, 3))],
             "made": [(gluing, ("split", great)), (gluing, ("edge", 0, -great))],
+            "undoing": [(gluing, ("split", great)), (gluing, ("edge", 0, -great))],
+            "carried": [(gluing, ((great, (0, 1, 2, 3)),), ("split", 0)),
+                        (gluing, same, ("split", -great))],
+            "replay": [(gluing, (("split", great),))],
+            "undone": [(gluing, gluing, ((("split", great),), same))],
+            "identity": [(great,)], "times": [([great], [[1, 2]], great)],
+            "border": [(gluing, great, [great])], "homology": [(gluing, -great)],
+            "number_modulo": [(gluing, 0, great)], "filling": [(gluing, [great])],
+            "branch": [(gluing, great)], "circle": [(gluing, 0, -great)],
+            "path_end": [(gluing, (great, ()))], "path_word": [(gluing, (0, (great,)))],
+            "loop": [(gluing, great)], "sums": [(-great, ()), (1, (great,))],
+            "permutation_of": [(((0, great),), ()), (((0, 1),), (great,))],
+            "satisfies": [((1, ((great,),)), ((0,),)), ((1, ()), ((great,),))],
+            "classes_of": [((great, ()), 1), ((1, ()), great)],
         }
         for module in INTERFACE:
             for function, told in functions_of(module):
@@ -89,7 +133,7 @@ class InterfaceTest(unittest.TestCase):
     def test_same_answers_again(self):
         # Nothing is kept from one call to the next one.
         gluing = ring(3, 1)
-        for module in ("skeleton", "links", "forms", "moves"):
+        for module in ("skeleton", "links", "forms", "moves", "chains", "homology", "paths", "groups"):
             for function, told in functions_of(module):
                 if told.split("(")[1].startswith("gluing)") or "*" in told:
                     first = repr(function(gluing))

@@ -12,6 +12,10 @@ BUILTINS = set("""len range enumerate zip min max sum abs sorted reversed int st
     set isinstance ord repr any all divmod pow iter next super ValueError TypeError KeyError IndexError
     Exception""".split())
 
+LIBRARY = {
+    "heapq": "heapify heappop heappush heappushpop heapreplace", "math": "comb factorial gcd isqrt lcm perm",
+    "itertools": "combinations permutations product", "collections": "defaultdict"}
+
 METHODS = set("""append clear copy count endswith extend find get index insert isalnum isalpha isdigit
     islower isspace isupper items join keys ljust lower lstrip partition pop remove replace reverse
     rfind rjust rpartition rsplit rstrip setdefault split splitlines startswith strip update upper
@@ -31,6 +35,12 @@ def files():
     return found
 
 
+def own_methods():
+    """Return the set of the names of all methods of the package."""
+    classes = [node for _, text in files() for node in ast.walk(ast.parse(text)) if isinstance(node, ast.ClassDef)]
+    return {node.name for one in classes for node in one.body if isinstance(node, ast.FunctionDef)}
+
+
 class RulesTest(unittest.TestCase):
     def test_files(self):
         for name, text in files():
@@ -48,13 +58,13 @@ class RulesTest(unittest.TestCase):
                     self.assertEqual(node.decorator_list, [])
 
     def test_imports(self):
-        owners = {}
+        owned = set()
         for name, text in files():
             for node in ast.parse(text).body:
                 if isinstance(node, (ast.FunctionDef, ast.ClassDef)):
-                    owners[node.name] = f"wedgespace.{name[:-3]}"
+                    owned.add((f"wedgespace.{name[:-3]}", node.name))
                 elif isinstance(node, ast.Assign):
-                    owners[node.targets[0].id] = f"wedgespace.{name[:-3]}"
+                    owned.add((f"wedgespace.{name[:-3]}", node.targets[0].id))
         for name, text in files():
             tree = ast.parse(text)
             self.assertFalse([node for node in ast.walk(tree) if isinstance(node, ast.Import)])
@@ -64,9 +74,49 @@ class RulesTest(unittest.TestCase):
                     self.assertIn(node, tree.body)
                     for alias in node.names:
                         self.assertIsNone(alias.asname)
-                        self.assertEqual(owners[alias.name], node.module, name)
+                        if node.module in LIBRARY:
+                            self.assertIn(alias.name, LIBRARY[node.module].split(), name)
+                        else:
+                            self.assertIn((node.module, alias.name), owned, name)
                         uses = re.findall(rf"\b{alias.name}\b", text)
                         self.assertGreater(len(uses), 1, f"{name}: {alias.name} is not used")
+
+    def test_no_two_files_import_from_each_other(self):
+        left = {f"wedgespace.{name[:-3]}": {node.module for node in ast.walk(ast.parse(text))
+                                            if isinstance(node, ast.ImportFrom) and node.module not in LIBRARY}
+                for name, text in files()}
+        while left:
+            free = [module for module in left if not left[module] & set(left)]
+            self.assertNotEqual(free, [], sorted(left))
+            for module in free:
+                del left[module]
+
+    def test_stars_and_generators(self):
+        for name, text in files():
+            for node in ast.walk(ast.parse(text)):
+                if isinstance(node, ast.Call):
+                    for argument in node.args:
+                        if isinstance(argument, ast.Starred):
+                            self.assertIsInstance(argument.value, (ast.Name, ast.Attribute), name)
+                if isinstance(node, ast.FunctionDef):
+                    inside = list(ast.walk(node))
+                    if any(isinstance(one, (ast.Yield, ast.YieldFrom)) for one in inside):
+                        words = {one.id for one in inside if isinstance(one, ast.Name)}
+                        self.assertFalse(words & {"permutations", "combinations", "product", "next"}, name)
+
+    def test_lists_and_dicts_at_module_level_are_only_read(self):
+        for name, text in files():
+            tree = ast.parse(text)
+            tables = {node.targets[0].id for _, other in files() for node in ast.parse(other).body
+                      if isinstance(node, ast.Assign) and isinstance(node.value, (ast.List, ast.Dict))}
+            for node in ast.walk(tree):
+                values = []
+                if isinstance(node, ast.Call) and getattr(node.func, "id", "") not in BUILTINS:
+                    values = node.args + [keyword.value for keyword in node.keywords]
+                elif isinstance(node, (ast.Assign, ast.Return)):
+                    values = [node.value]
+                for value in values:
+                    self.assertNotIn(getattr(value, "id", ""), tables, name)
 
     def test_names(self):
         for name, text in files():
@@ -85,7 +135,7 @@ class RulesTest(unittest.TestCase):
                 if isinstance(node, ast.Name) and isinstance(node.ctx, ast.Load):
                     self.assertIn(node.id, stored | bound | BUILTINS, name)
                 if isinstance(node, ast.Call) and isinstance(node.func, ast.Attribute):
-                    self.assertIn(node.func.attr, METHODS, name)
+                    self.assertIn(node.func.attr, METHODS | own_methods(), name)
             for word in WORDS:
                 self.assertNotRegex(text, rf"\b{word}\b", name)
 

@@ -2,8 +2,8 @@
 
 from wedgespace.errors import BadNumber, TooLarge
 from wedgespace.gluings import check_gluing, check_joined
-from wedgespace.perms import IDENTITY, all_permutations, inverse_of, is_permutation, product_of
-from wedgespace.renaming import inverse_of_renaming, product_of_renamings, renamed_entry
+from wedgespace.perms import IDENTITY, all_permutations, inverse_of, is_permutation, product_of, taking
+from wedgespace.renaming import renamed_entry
 
 MOST_FOR_FORMS = 12
 
@@ -99,13 +99,45 @@ def renamings(one, other):
     check_gluing(other)
     check_size(one)
     check_size(other)
-    form, leading = walk_below(one, 0, IDENTITY, None)
-    found = []
-    for t, p in beginnings(other):
-        other_form, other_leading = walk_below(other, t, p, None)
-        if other_form == form:
-            found.append(product_of_renamings(leading, inverse_of_renaming(other_leading)))
-    return sorted(found)
+    if len(one) != len(other):
+        return []
+    told = [spread_renaming(one, other, pair) for pair in beginnings(other)]
+    return sorted([renaming for renaming in told if renaming is not None])
+
+
+def some_renaming(one, other):
+    """Return a renaming from one joined gluing to another one, of any size, or None."""
+    if len(one) != len(other):
+        return None
+    for pair in beginnings(other):
+        renaming = spread_renaming(one, other, pair)
+        if renaming is not None:
+            return renaming
+    return None
+
+
+def spread_renaming(one, other, pair):
+    """Return the renaming with this pair of the tetrahedron 0, or None if there is none.
+
+    Both gluings are joined and have as many tetrahedra.
+    """
+    pairs = {0: pair}
+    order = [0]
+    at = 0
+    while at < len(order):
+        t = order[at]
+        u, p = pairs[t]
+        for f, (v, q) in enumerate(one[t]):
+            w, r = other[u][p[f]]
+            # The corner q[i] of v lies on the corner i of t, and so is renamed to r[p[i]] of w.
+            told = (w, taking(q, product_of(p, r)))
+            if v not in pairs:
+                pairs[v] = told
+                order.append(v)
+            elif pairs[v] != told:
+                return None
+        at += 1
+    return tuple([pairs[t] for t in range(len(one))])
 
 
 def symmetries(gluing):

@@ -102,6 +102,11 @@ def sides(gluing):
     """Return the list that tells for each tetrahedron whether its permutation is odd, or None."""
     check_gluing(gluing)
     check_joined(gluing)
+    return sides_of(gluing)
+
+
+def sides_of(gluing):
+    """Return the sides of the tetrahedra of a joined gluing that was checked, or None."""
     # The renamed permutation of an entry has the signs of the entry and of both renamings in it:
     # it is odd if an odd entry joins two equal renamings, or an even one two different ones.
     links = {t: [(u, has_odd_sign(p)) for u, p in gluing[t]] for t in range(len(gluing))}

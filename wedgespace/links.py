@@ -55,5 +55,11 @@ def is_closed_space(gluing):
 
 def check_closed(gluing):
     """Raise NotGluing, or NotClosed if the gluing is not closed."""
-    if not is_closed(gluing):
+    check_gluing(gluing)
+    check_closed_space(gluing)
+
+
+def check_closed_space(gluing):
+    """Raise NotClosed if a gluing that was checked is not closed."""
+    if not is_closed_space(gluing):
         raise NotClosed("the gluing is not closed")

@@ -10,7 +10,7 @@ from wedgespace.errors import BadMove, BadNumber, TooLarge
 from wedgespace.gluings import MOST_TETRAHEDRA
 from wedgespace.links import check_closed
 from wedgespace.perms import IDENTITY, exchanging, inverse_of, product_of, taking
-from wedgespace.skeleton import EDGES
+from wedgespace.skeleton import EDGES, corners_without
 
 # How many tetrahedra each kind of move adds, in the order of the kinds.
 ADDED = {"split": 3, "join": -3, "face": 1, "edge": -1}
@@ -25,11 +25,21 @@ def can(gluing, move):
 def made(gluing, move):
     """Return the gluing behind the move."""
     check_closed(gluing)
+    check_move(gluing, move)
+    return gluing_behind(gluing, move)
+
+
+def check_move(gluing, move):
+    """Raise BadMove(0) or TooLarge if a move of a closed gluing cannot be made."""
     if not is_possible(gluing, move):
         raise BadMove(0)
-    if len(gluing) + ADDED[move[0]] > MOST_TETRAHEDRA:
+    if size_behind(gluing, move) > MOST_TETRAHEDRA:
         raise TooLarge("the gluing behind the move has more than 40 tetrahedra")
-    return gluing_behind(gluing, move)
+
+
+def size_behind(gluing, move):
+    """Return the number of tetrahedra that there are behind a move."""
+    return len(gluing) + ADDED[move[0]]
 
 
 def moves_of(gluing, *, kinds=("split", "join", "face", "edge")):
@@ -37,6 +47,11 @@ def moves_of(gluing, *, kinds=("split", "join", "face", "edge")):
     check_closed(gluing)
     if not all([kind in ADDED for kind in kinds]):
         raise BadNumber("there is no such kind of moves")
+    return moves_of_kinds(gluing, kinds)
+
+
+def moves_of_kinds(gluing, kinds):
+    """Return the list of the moves of a closed gluing that are of the told kinds, in their order."""
     moves = []
     for kind in ADDED:
         if kind in kinds:
@@ -98,11 +113,6 @@ def is_edge_possible(gluing, t, e):
     if u == t or v == t or u == v:
         return False
     return gluing[u][p[l]] == (v, taking((p[i], p[j], p[k], p[l]), (q[i], q[j], q[l], q[k])))
-
-
-def corners_without(left_out):
-    """Return the ascending list of the corners other than those of a list."""
-    return [i for i in range(4) if i not in left_out]
 
 
 def gluing_behind(gluing, move):
@@ -176,9 +186,14 @@ def edge_plan(gluing, t, e):
     return ([t, u, v], outer, inner)
 
 
+def kept_tetrahedra(gluing, old):
+    """Return the ascending list of the tetrahedra that a move does not replace."""
+    return [t for t in range(len(gluing)) if t not in old]
+
+
 def replaced(gluing, old, outer, inner, count):
     """Return the gluing behind a plan with a number of new tetrahedra."""
-    kept = [t for t in range(len(gluing)) if t not in old]
+    kept = kept_tetrahedra(gluing, old)
     first = len(kept)
     # The faces of the other tetrahedra go along with them: then all faces that do not vanish are
     # treated alike, on whichever side of them a tetrahedron is replaced.

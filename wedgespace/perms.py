@@ -62,8 +62,8 @@ def inverse_of(one):
 
 
 def has_odd_sign(one):
-    """Return True if a permutation is odd, False if it is even."""
-    turned = [(i, j) for j in range(4) for i in range(j) if one[i] > one[j]]
+    """Return True if an odd number of exchanges sorts a tuple of different integers."""
+    turned = [(i, j) for j in range(len(one)) for i in range(j) if one[i] > one[j]]
     return len(turned) % 2 == 1
 
 

@@ -44,6 +44,11 @@ def index_of_edge(a, b):
     return EDGES.index((min(a, b), max(a, b)))
 
 
+def corners_without(left_out):
+    """Return the ascending list of the corners other than those of a list."""
+    return [i for i in range(4) if i not in left_out]
+
+
 def end_links(gluing):
     """Return the table of links of the end places of a gluing that was checked.
 
@@ -114,6 +119,11 @@ def around(gluing, t, a, b, c):
     check_gluing(gluing)
     if not 0 <= t < len(gluing) or not are_different_corners([a, b, c]):
         raise BadNumber("a walk begins at a tetrahedron and at three different corners of it")
+    return walk_around(gluing, t, a, b, c)
+
+
+def walk_around(gluing, t, a, b, c):
+    """Return the walk around an edge, for arguments that were checked."""
     walk = [(t, a, b, c)]
     place = place_behind(gluing, (t, a, b, c))
     while place != walk[0]:
