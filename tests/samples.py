@@ -17,6 +17,13 @@ HANDLE = "0:1230 0:3012 1:0123 1:0123 / 1:1230 1:3012 0:0123 0:0123"
 # Two tetrahedra; closed, and its group is that of the eight quaternions 1, i, j, k and negatives.
 QUATERNIONS = "1:0123 1:2301 1:3210 1:1032 / 0:0123 0:3210 0:1032 0:2301"
 
+# One tetrahedron; closed, and its group has four words that commute.
+FOURTH = "0:1230 0:3012 0:1230 0:3012"
+
+# Three tetrahedra; closed. Its homology of dimension 1 is that of the one before, not its group.
+PRISM = ("1:0123 1:2301 2:0123 2:2301 / 0:0123 2:3012 2:1230 0:2301"
+         " / 1:1230 0:2301 0:0123 1:3012")
+
 # Three tetrahedra; closed, without sides, and its homology has a rank and a divisor.
 PLANE_CIRCLE = ("1:0123 1:0123 2:0123 2:2310 / 0:0123 0:0123 2:1032 2:3201"
                 " / 0:3201 1:2310 0:0123 1:1032")

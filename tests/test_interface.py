@@ -61,6 +61,37 @@ INTERFACE = {
         "check_images(count, images)", "permutation_of(images, word)",
         "satisfies(group, images)", "is_transitive(images)", "all_images(group, degree)",
         "classes_of(group, degree)"],
+    "covers": [
+        "cover(gluing, images)", "side_images(gluing)", "cover_numbers(gluing, degree)",
+        "cover_homologies(gluing, degree)"],
+    "surfaces": [
+        "fits(gluing, vector)", "is_allowed(gluing, vector)", "weights(gluing, vector)",
+        "euler(gluing, vector)", "agree(gluing, one, other)", "link_vector(gluing, corner_class)",
+        "is_simple(gluing, vector)", "simple_vectors(gluing)"],
+    "pieces": [
+        "pieces(gluing, vector)", "neighbours(gluing, vector, piece)", "parts(gluing, vector)",
+        "has_turns(gluing, vector)"],
+    "rings": ["ring(p, q)", "ring_order(p, q)", "ring_numbers(gluing)", "axis_of(gluing, t, e)"],
+    "census": [
+        "count_gluings(tetrahedra)", "gluing_at(tetrahedra, number)",
+        "next_closed(tetrahedra, number, *, tries=200)", "number_of(gluing)", "census()"],
+    "decide": [
+        "decide(one, other)", "is_answer(one, other, answer)", "shows(answer)",
+        "told_homology(forms, counts)"],
+    "certificates": [
+        "is_way(one, other, way)", "homologies_told(gluing, forms)", "are_signs(gluing, signs)",
+        "is_turning_circle(gluing, circle)", "is_filling(gluing, cycle, chain)",
+        "is_cycle_test(gluing, cycle, test)", "image_count(gluing, degree)",
+        "shown(one, other, answer)"],
+    "lines": ["words_of(line)", "is_name(word)", "number_in(word)"],
+    "journal": ["attempt(journal, lines, *, keep=False)", "resume(text)"],
+}
+
+CLASSES = {
+    ("desk", "Desk"): ["answer(self, line)", "answers(self, lines)", "names(self)", "thing(self, name)"],
+    ("journal", "Journal"): [
+        "answer(self, line)", "record(self)", "lines(self)", "keep(self)", "__enter__(self)",
+        "__exit__(self, kind, value, trace)"],
 }
 
 ERRORS = [
@@ -82,6 +113,16 @@ class InterfaceTest(unittest.TestCase):
                 self.assertTrue(inspect.isfunction(function), told)
                 self.assertEqual(function.__name__ + str(inspect.signature(function)), told)
                 self.assertEqual(function.__module__, f"wedgespace.{module}")
+
+    def test_classes(self):
+        for (module, name), methods in CLASSES.items():
+            found = getattr(importlib.import_module(f"wedgespace.{module}"), name)
+            self.assertEqual((found.__name__, found.__module__), (name, f"wedgespace.{module}"))
+            self.assertEqual(str(inspect.signature(found)), "()")
+            for told in methods:
+                # Defined in the class itself, not in a base class.
+                method = found.__dict__[told.split("(")[0]]
+                self.assertEqual(method.__name__ + str(inspect.signature(method)), told)
 
     def test_errors(self):
         module = importlib.import_module("wedgespace.errors")
@@ -121,6 +162,14 @@ class InterfaceTest(unittest.TestCase):
             "permutation_of": [(((0, great),), ()), (((0, 1),), (great,))],
             "satisfies": [((1, ((great,),)), ((0,),)), ((1, ()), ((great,),))],
             "classes_of": [((great, ()), 1), ((1, ()), great)],
+            "cover": [(gluing, ((0, great), (great, 0))), (gluing, ((great,), (0,)))],
+            "cover_numbers": [(gluing, great)], "cover_homologies": [(gluing, -great)],
+            "fits": [(gluing, [great] * 7)], "is_simple": [(gluing, [-great] * 7)],
+            "agree": [(gluing, [0] * 7, [great] * 7)], "link_vector": [(gluing, great)],
+            "neighbours": [(gluing, [1, 1, 0, 0, 0, 0, 0], (0, 0, great))], "parts": [(gluing, [great] * 7)],
+            "ring": [(great, 0), (1, -great)], "ring_order": [(great, great)], "axis_of": [(gluing, great, 0)],
+            "count_gluings": [(great,)], "gluing_at": [(great, 0), (1, great)],
+            "next_closed": [(great, 0), (1, -great)], "image_count": [(gluing, great)],
         }
         for module in INTERFACE:
             for function, told in functions_of(module):
@@ -133,9 +182,10 @@ class InterfaceTest(unittest.TestCase):
     def test_same_answers_again(self):
         # Nothing is kept from one call to the next one.
         gluing = ring(3, 1)
-        for module in ("skeleton", "links", "forms", "moves", "chains", "homology", "paths", "groups"):
+        for module in ("skeleton", "links", "forms", "moves", "chains", "homology", "paths", "groups",
+                       "covers", "rings"):
             for function, told in functions_of(module):
-                if told.split("(")[1].startswith("gluing)") or "*" in told:
+                if told.split("(")[1].startswith("gluing)") or "kinds" in told:
                     first = repr(function(gluing))
                     function(ring(2, 0))
                     self.assertEqual(repr(function(gluing)), first)

@@ -2,8 +2,10 @@
 
 import ast
 import builtins
+import io
 import os
 import re
+import tokenize
 import unittest
 
 FOLDER = os.path.join(os.path.dirname(os.path.dirname(os.path.abspath(__file__))), "wedgespace")
@@ -19,10 +21,12 @@ LIBRARY = {
 METHODS = set("""append clear copy count endswith extend find get index insert isalnum isalpha isdigit
     islower isspace isupper items join keys ljust lower lstrip partition pop remove replace reverse
     rfind rjust rpartition rsplit rstrip setdefault split splitlines startswith strip update upper
-    values zfill bit_length add discard __init__""".split())
+    values zfill bit_length add discard __init__ __enter__ __exit__""".split())
 
-WORDS = """typing enum Enum Generic Protocol ABC namedtuple open input law register mro elements eval
-    exec compile globals locals vars dir id""".split()
+# Words that stand nowhere in a file, and words that are only no names there.
+WORDS = "typing enum Enum Generic Protocol ABC namedtuple".split()
+NO_NAMES = set("""open input law register mro elements eval exec compile globals locals vars dir
+    id type""".split())
 
 
 def files():
@@ -105,10 +109,10 @@ class RulesTest(unittest.TestCase):
                         self.assertFalse(words & {"permutations", "combinations", "product", "next"}, name)
 
     def test_lists_and_dicts_at_module_level_are_only_read(self):
+        tables = {node.targets[0].id for _, other in files() for node in ast.parse(other).body
+                  if isinstance(node, ast.Assign) and isinstance(node.value, (ast.List, ast.Dict))}
         for name, text in files():
             tree = ast.parse(text)
-            tables = {node.targets[0].id for _, other in files() for node in ast.parse(other).body
-                      if isinstance(node, ast.Assign) and isinstance(node.value, (ast.List, ast.Dict))}
             for node in ast.walk(tree):
                 values = []
                 if isinstance(node, ast.Call) and getattr(node.func, "id", "") not in BUILTINS:
@@ -119,6 +123,7 @@ class RulesTest(unittest.TestCase):
                     self.assertNotIn(getattr(value, "id", ""), tables, name)
 
     def test_names(self):
+        methods = METHODS | own_methods()
         for name, text in files():
             tree = ast.parse(text)
             bound = {node.name for node in ast.walk(tree) if isinstance(node, (ast.FunctionDef, ast.ClassDef))}
@@ -135,9 +140,11 @@ class RulesTest(unittest.TestCase):
                 if isinstance(node, ast.Name) and isinstance(node.ctx, ast.Load):
                     self.assertIn(node.id, stored | bound | BUILTINS, name)
                 if isinstance(node, ast.Call) and isinstance(node.func, ast.Attribute):
-                    self.assertIn(node.func.attr, METHODS | own_methods(), name)
+                    self.assertIn(node.func.attr, methods, name)
             for word in WORDS:
                 self.assertNotRegex(text, rf"\b{word}\b", name)
+            tokens = tokenize.generate_tokens(io.StringIO(text).readline)
+            self.assertFalse({token.string for token in tokens if token.type == tokenize.NAME} & NO_NAMES, name)
 
     def test_statements(self):
         barred = (ast.Global, ast.AsyncFunctionDef, ast.Div)
@@ -149,7 +156,7 @@ class RulesTest(unittest.TestCase):
                     if isinstance(node.value, str):
                         self.assertNotIn(chr(37), node.value)
                 named = isinstance(node, (ast.FunctionDef, ast.ClassDef))
-                if named and node.name != "__init__":
+                if named and not node.name.startswith("__"):
                     self.assertIsNotNone(ast.get_docstring(node), f"{name}: {node.name}")
 
 

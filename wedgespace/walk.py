@@ -17,9 +17,11 @@ def ball(gluing, radius, *, most):
     if not 0 <= radius <= GREATEST_RADIUS:
         raise BadNumber("a radius is from 0 to 2")
     check_most(most)
-    ways = ways_around(gluing, radius, most)
-    check_count(ways)
-    return sorted(ways)
+    found = Ball(gluing, most)
+    for _ in range(radius):
+        found.grow()
+    check_count(found)
+    return sorted(found.ways)
 
 
 def find_way(one, other, *, most=4):
@@ -27,14 +29,20 @@ def find_way(one, other, *, most=4):
     check_closed(one)
     check_closed(other)
     check_most(most)
-    check_count(ways_around(one, 1, most))
-    check_count(ways_around(other, 1, most))
-    reach = GREATEST_RADIUS if max(len(one), len(other)) <= most else 0
-    for radius in range(reach + 1):
-        way = way_through_balls(one, other, radius, most)
-        if way is not None:
-            return way
-    return None
+    near = Ball(one, most)
+    far = Ball(other, most)
+    way = way_through_balls(near, far)
+    near.grow()
+    far.grow()
+    check_count(near)
+    check_count(far)
+    if way is None and max(len(one), len(other)) <= most:
+        way = way_through_balls(near, far)
+        if way is None:
+            near.grow()
+            far.grow()
+            way = way_through_balls(near, far)
+    return way
 
 
 def check_most(most):
@@ -43,42 +51,50 @@ def check_most(most):
         raise BadNumber("a greatest number of tetrahedra is from 1 to 6")
 
 
-def check_count(ways):
-    """Raise TooLarge if a ball, which was told by the ways to its forms, has too many of them."""
-    if len(ways) > MOST_FORMS:
+def check_count(found):
+    """Raise TooLarge if a ball has too many forms."""
+    if len(found.ways) > MOST_FORMS:
         raise TooLarge("a ball has more than 400 forms")
 
 
-def way_through_balls(one, other, radius, most):
-    """Return a way that leads through a form in the balls around both gluings, or None.
+def way_through_balls(near, far):
+    """Return a way that leads through a form in both balls, or None.
 
-    Each move is undone by a move: so the balls of a radius find all ways of twice as many moves.
+    Each move is undone by a move: so balls of a radius find all ways of twice as many moves.
     """
-    ways = ways_around(one, radius, most)
-    other_ways = ways_around(other, radius, most)
-    for form in ways:
-        if form in other_ways:
-            return joined_way(one, ways[form], undone_way(other, form, other_ways[form]))
+    for form in near.ways:
+        if form in far.ways:
+            back = undone_way(far.gluing, form, far.ways[form])
+            return joined_way(near.gluing, near.ways[form], back)
     return None
-
-
-def ways_around(gluing, radius, most):
-    """Return a dict that has, for each form of a ball, a way from the gluing to it."""
-    form, renaming = least_walk(gluing)
-    ways = {form: ((), renaming)}
-    outermost = [((), gluing)]
-    for _ in range(radius):
-        reached = [step for log, end in outermost for step in steps_from(log, end, most)]
-        outermost = []
-        for log, end in reached:
-            form, renaming = least_walk(end)
-            if form not in ways:
-                ways[form] = (log, renaming)
-                outermost.append((log, end))
-    return ways
 
 
 def steps_from(log, end, most):
     """Return the pairs of a log with one move more, and of the neighbour of the end behind it."""
     moves = [move for move in moves_of_kinds(end, list(ADDED)) if size_behind(end, move) <= most]
     return [((*log, move), gluing_behind(end, move)) for move in moves]
+
+
+class Ball:
+    """A ball around a closed gluing, at first of the radius 0.
+
+    `ways` is a dict with a way from the gluing to each form of the ball, and `outermost` has the
+    pairs of a log and its end for those forms that came last.
+    """
+
+    def __init__(self, gluing, most):
+        form, renaming = least_walk(gluing)
+        self.gluing = gluing
+        self.most = most
+        self.ways = {form: ((), renaming)}
+        self.outermost = [((), gluing)]
+
+    def grow(self):
+        """Make the radius greater by 1."""
+        reached = [step for log, end in self.outermost for step in steps_from(log, end, self.most)]
+        self.outermost = []
+        for log, end in reached:
+            form, renaming = least_walk(end)
+            if form not in self.ways:
+                self.ways[form] = (log, renaming)
+                self.outermost.append((log, end))
