@@ -170,6 +170,9 @@ class NextTest(unittest.TestCase):
         for n, first, second in GAPS:
             found = next_closed(n, first + 1)
             self.assertEqual(found is None, second - first > 200)
+            if found is None:
+                self.assertIsNone(next_closed(n, second - 200))
+                self.assertEqual(next_closed(n, second - 199)[0], second)
 
     def test_the_last_numbers(self):
         for n in (1, 2, 6):

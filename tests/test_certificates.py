@@ -211,9 +211,13 @@ class FormsTest(unittest.TestCase):
         last = len(entries) - 1
         told = [(exchanged(forms[1], 0, 1), True), (exchanged(forms[1], 0, last), False),
                 (exchanged(forms[1], last, last + 1), False), (rows_negated(forms[1], 0), False),
-                (columns_negated(forms[1], 0), False), (rows_exchanged(forms[1], 0, 1), False), (forms[0], False)]
+                (columns_negated(forms[1], 0), False), (rows_exchanged(forms[1], 0, 1), False), (forms[0], False),
+                (row_added(forms[1], 1, 0), False), (row_added(forms[1], 0, 1), False)]
         for form, is_form in told:
             self.assertEqual(homologies_told(gluing, (forms[0], form, forms[2])) is not None, is_form)
+        # The last entry of the dimension 3 is 0, those before it are 1.
+        wrong = exchanged(forms[2], len(gluing) - 2, len(gluing) - 1)
+        self.assertIsNone(homologies_told(gluing, (forms[0], forms[1], wrong)))
 
     def test_forms_of_other_gluings(self):
         self.assertIsNone(homologies_told(ring(2, 1), homology_forms(ring(3, 1))))
@@ -255,6 +259,16 @@ def rows_exchanged(form, i, k):
         rows[i], rows[k] = rows[k], rows[i]
     for row in left_inverse:
         row[i], row[k] = row[k], row[i]
+    return (left, left_inverse, diagonal, right, right_inverse)
+
+
+def row_added(form, i, k):
+    """Return a form in which the row k of the left matrix is added to the row i, and all that goes with it."""
+    left, left_inverse, diagonal, right, right_inverse = copy.deepcopy(form)
+    for rows in (left, diagonal):
+        rows[i] = [x + y for x, y in zip(rows[i], rows[k])]
+    for row in left_inverse:
+        row[k] -= row[i]
     return (left, left_inverse, diagonal, right, right_inverse)
 
 

@@ -96,6 +96,7 @@ def wrong_ways(one, way):
     log, renaming = way
     first = renaming[0]
     moves = [("split", -1), ("split", len(one)), ("join", 0, 4), ("face", 0, -1), ("edge", 0, 6), ("split", GREAT),
+             ("join", 0, -1), ("face", 0, 4), ("edge", 0, -1),
              ("face", GREAT, 0), ("edge", 0, -GREAT), ("join", len(one), 0), ("face", len(one), 0), ("edge", -1, 0)]
     found = [((move, *log), renaming) for move in moves]
     found += [((("split", 0), *log), renaming), (log, ()), (log, renaming + renaming), (log, renaming[:-1])]
@@ -237,7 +238,8 @@ class AnswerTest(unittest.TestCase):
             for some in wrong:
                 self.assertIs(is_answer(one, other, ("sides", some, circle)), False)
                 self.assertIs(is_answer(other, one, ("sides", some, circle)), False)
-            bent = [[], circle * 2, circle[:-1] + [(circle[-1][0], 4)], [(GREAT, 0)], [(-1, 0)], [(0, -1)], [(0, GREAT)]]
+            bent = [[], circle * 2, circle[:-1] + [(circle[-1][0], 4)], [(GREAT, 0)], [(-1, 0)], [(0, -1)],
+                     [(0, GREAT)], [(2, 0)], [(3, 0)], [(0, 4)]]
             bent += [circle[:k] + [(circle[k][0], f)] + circle[k + 1:] for k in range(len(circle)) for f in range(4)]
             bent += [circle[1:] + circle[:1], circle[:-1], circle + circle[:1], circle + [(0, 0)]]
             turning = gluing_of(ONE_SIDED) if one == ring(3, 1) else one

@@ -57,12 +57,11 @@ class Journal:
 
     # Nothing is returned here, so that an exception that leaves the statement goes on.
     def __exit__(self, kind, value, trace):
+        desk = self.desk
         if kind is not None or not self.is_kept:
-            desk = self.desk
             desk.gluings = self.gluings_before
             self.entries = self.entries_before
         self.is_open = False
-        self.is_kept = False
 
 
 def attempt(journal, lines, *, keep=False):

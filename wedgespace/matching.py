@@ -24,12 +24,6 @@ def arc_columns(t, v, f):
     return (KINDS * t + v, KINDS * t + square_parting(v, f))
 
 
-def arc_count(vector, t, v, f):
-    """Return the number of the arcs of the corner v in the face f of t."""
-    triangles, squares = arc_columns(t, v, f)
-    return vector[triangles] + vector[squares]
-
-
 def conditions_of(gluing):
     """Return the list of the conditions for a vector that fits."""
     conditions = []
